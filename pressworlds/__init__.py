@@ -1,0 +1,1 @@
+"""Pressworlds: lots of changes in endless worlds."""
