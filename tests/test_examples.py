@@ -5,7 +5,7 @@ import os
 import unittest
 
 HERE = os.path.dirname(os.path.abspath(__file__))
-SECTIONS = ["rows", "rowlots"]
+SECTIONS = ["rows", "rowlots", "folds", "points", "pointlots", "slides"]
 
 
 class TestExamples(unittest.TestCase):
