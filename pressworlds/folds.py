@@ -34,7 +34,6 @@ def walked(lot, change):
 
 def remainders(lot):
     """Return the first words to all places, as rows; None for endlessly many cosets."""
-    check_row_lot(lot)
     if row_cosets(lot) is None:
         return None
     words = first_words(steps_of(lot.form), 0)

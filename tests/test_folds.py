@@ -177,6 +177,51 @@ class TestRemainders(Case):
         self.assertEqual(remainders(lot("a", letters=1)), (Row(1, ""),))
         self.assertEqual(remainders(lot("aaa", letters=1)), (Row(1, ""), Row(1, "a"), Row(1, "A")))
         self.assertEqual([str(one) for one in remainders(lot("aa", "b", "abA"))], ["rows 2 -", "rows 2 a"])
+        self.assertEqual([one.word for one in remainders(lot("aa", "b", "abbA", "abaBA"))], ["", "a", "ab"])
+
+
+class TestByExchanges(Case):
+    """Two exchanges of a few places make a web in which each letter goes from each place."""
+
+    def lots(self):
+        for many in (1, 2, 3, 4):
+            for exchanges in itertools.product(itertools.permutations(range(many)), repeat=2):
+                form = [(place, letter, exchange[place]) for letter, exchange in zip("ab", exchanges)
+                        for place in range(many)]
+                goals = {(place, letter): goal for place, letter, goal in form}
+                goals |= {(goal, letter.upper()): place for place, letter, goal in form}
+                words = {0: ""}
+                while any(goals[place, way] not in words for place in list(words) for way in "aAbB"):
+                    for place, way in itertools.product(list(words), "aAbB"):
+                        words.setdefault(goals[place, way], words[place] + way)
+                if len(words) == many:
+                    loops = [struck(words[place] + letter + back(words[goal])) for place, letter, goal in form]
+                    yield many, goals, lot(*(loop for loop in loops if loop))
+
+    def test_remainders_ways_and_normal_lots(self):
+        normal = []
+        for many, goals, told in self.lots():
+            self.assertEqual((row_cosets(told), row_rank(told)), (many, many + 1))
+            for word in words_up_to(2, 3):
+                place = 0
+                for letter in word:
+                    place = goals[place, letter]
+                self.assertEqual(walked(told, row(word)) == 0, place == 0)
+            found = [one.word for one in remainders(told)]
+            self.assertEqual(found, steps_and_first_words(row_form(told))[1])
+            self.assertEqual([walked(told, row(word)) for word in found], list(range(many)))
+            expected = TestNormal.plainly(None, told, 2)
+            self.assertIs(is_normal_lot(told), expected)
+            normal.append((many, expected))
+        self.assertEqual([normal.count((3, True)), normal.count((4, True))], [8, 42])
+        self.assertEqual([normal.count((3, False)), normal.count((4, False))], [18, 384])
+
+    def test_moved_by_going_to_another_place(self):
+        for many, goals, told in self.lots():
+            word = "ab" * (many % 3)
+            other = lot(*(struck(word + one.word + back(word)) for one in told.changes))
+            found = row_mover(told, other)
+            self.assertTrue(TestMover.moves(None, told, other, found.word))
 
 
 class TestNormal(Case):

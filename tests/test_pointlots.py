@@ -445,6 +445,8 @@ class TestRings(Case):
         self.assertEqual(point_rings(lot((1, 0))), (0,))
         self.assertEqual(point_rings(lot((3, 0, 0), (0, 0, 2))), (6, 0))
         self.assertEqual(point_rings(lot((4, 0), (0, 6))), (2, 12))
+        self.assertEqual(point_rings(lot((5, 1, 1), (0, 3, 2))), (0,))
+        self.assertEqual(point_rings(lot((5, 2, 1), (0, 10, 5))), (25, 0))
         self.assertEqual(point_rings(lot((4, 0, 0), (0, 4, 0), (0, 0, 4))), (4, 4, 4))
         self.assertEqual(point_rings(lot((GREAT, 0), (0, GREAT))), (GREAT, GREAT))
 

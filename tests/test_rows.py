@@ -34,9 +34,9 @@ class TestClass(Case):
             self.assertEqual((made.letters, made.word, str(made), len(made)), (3, "abC", "rows 3 abC", 3))
 
     def test_word_is_reduced(self):
-        for word, left in [("aA", ""), ("bBb", "b"), ("abBA", ""), ("aAa", "a"),
-                           ("AaA", "A"), ("abBAb", "b"), ("abAB", "abAB"), ("aabBAb", "ab"), ("a" * 200 + "A" * 200, ""),
-                           ("aB", "aB"), ("ab" * 100 + "BA" * 99, "ab")]:
+        for word, left in [("aA", ""), ("bBb", "b"), ("abBA", ""), ("aAa", "a"), ("AaA", "A"), ("abBAb", "b"),
+                           ("abAB", "abAB"), ("aabBAb", "ab"), ("a" * 200 + "A" * 200, ""), ("aB", "aB"),
+                           ("ab" * 100 + "BA" * 99, "ab")]:
             self.assertEqual((row(word).word, len(row(word))), (left, len(left)))
         rng = random.Random(1)
         for _ in range(300):

@@ -53,7 +53,8 @@ class TestClass(Case):
         wrong = ["ruler", "ruler 1", "ruler + ", "ruler +", "ruler +1", "ruler + +1", "ruler + --1", "ruler + -0",
                  "ruler - -0", "ruler + 01", "ruler - -01", "ruler + 00", "ruler * 1", "ruler ++ 1", "ruler  + 1",
                  "ruler +  1", " ruler + 1", "ruler + 1 ", "ruler + 1\n", "\nruler + 1", "Ruler + 1", "ruler + 1.0",
-                 "ruler + 1_0", "ruler + a", "ruler + 1 1", "ruler 1 +", "ruler + 1\nruler + 1", "ruler -1", "ruler + -",
+                 "ruler + 1_0", "ruler + a", "ruler + 1 1", "ruler 1 +", "ruler + 1\nruler + 1", "ruler -1",
+                 "ruler + -",
                  "ruler 1 1", "ruler -1 1", "grid 1 1", "rows 1 a", "+ 1", "ruler + 1-", "ruler + 0x1", "ruler + - 1"]
         for text in wrong + ODD:
             self.fails(InvalidText, text, Slide.read, text)
