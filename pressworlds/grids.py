@@ -60,6 +60,29 @@ def taken_by_lines(lines, numbers):
     return rest, counts
 
 
+def times_for(rows, numbers):
+    """Return how often each of these rows is taken so that all add up to these numbers; None if they never do."""
+    width = len(numbers)
+    marked = [list(row) + [int(at == own) for at in range(len(rows))] for own, row in enumerate(rows)]
+    rest = taken_by_lines(lines_of(marked, width), list(numbers) + [0] * len(rows))[0]
+    if pivot_place(rest[:width]) is not None:
+        return None
+    # The times were taken away with the lines, so that what is left of them is turned about.
+    return [-times for times in rest[width:]]
+
+
+def left_by(number, step):
+    """Return what is left of a number when multiples of a step are taken away; all of it for the step 0."""
+    return number % step if step else number
+
+
+def least_times(number, step):
+    """Return how often, from 1 on, a number is at least to be taken to be a multiple of a step; None if it never is."""
+    if step == 0:
+        return None if number else 1
+    return step // gcd(step, number)
+
+
 def common_lines(rows, others, width):
     """Return the lines of all that sums of these, so wide, and sums of the others both are.
 

@@ -39,6 +39,11 @@ def plan_done(plan, told, still, then, often):
     return total
 
 
+def plan_of_parts(parts, counts):
+    """Return the plan of these parts, each so many times; those that are taken no times are left out."""
+    return tuple([(part, times) for part, times in zip(parts, counts) if times != 0])
+
+
 def presses_joined(first, second):
     """Return the one list of pairs (index, times) and the other one behind it, equal neighbours made one."""
     joined = list(first)

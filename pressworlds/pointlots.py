@@ -3,10 +3,10 @@
 from math import gcd
 
 from pressworlds.errors import InvalidChanges, InvalidText, NotALot, OtherWorld
-from pressworlds.grids import common_lines, lines_of, pivot_place, rings_of, taken_by_lines
+from pressworlds.grids import common_lines, lines_of, pivot_place, rings_of, taken_by_lines, times_for
 from pressworlds.limits import MOST_NUMBER
 from pressworlds.lots import needless_of, told_changes
-from pressworlds.plans import check_plan, plan_done
+from pressworlds.plans import check_plan, plan_done, plan_of_parts
 from pressworlds.points import Point, check_point, point_often, point_then, still_point
 
 
@@ -129,22 +129,11 @@ def point_makes(lot, change):
     return is_sum_of(lot.rows, change.numbers)
 
 
-def lines_with_shares(rows, width):
-    """Return the lines of these rows, each with how often each row is in it behind."""
-    marked = [list(row) + [int(at == own) for at in range(len(rows))] for own, row in enumerate(rows)]
-    return lines_of(marked, width)
-
-
 def point_plan(lot, change):
     """Return a plan that does a point; None if it is not made."""
     check_point_beside(lot, change)
-    rows = lot.rows
-    lines = lines_with_shares(rows, lot.width)
-    rest = taken_by_lines(lines, list(change.numbers) + [0] * len(rows))[0]
-    if not is_zero(rest[:lot.width]):
-        return None
-    # The shares were taken away with the lines, so that what is left of them is turned about.
-    return tuple([(at, -share) for at, share in enumerate(rest[lot.width:]) if share != 0])
+    counts = times_for(lot.rows, change.numbers)
+    return None if counts is None else plan_of_parts(list(range(len(lot))), counts)
 
 
 def point_doing(lot, plan):
