@@ -5,7 +5,8 @@ import os
 import unittest
 
 HERE = os.path.dirname(os.path.abspath(__file__))
-SECTIONS = ["rows", "rowlots", "folds", "points", "pointlots", "slides"]
+SECTIONS = ["rows", "rowlots", "folds", "points", "pointlots", "slides", "slidelots", "views", "viewlots", "rounds",
+            "roundlots", "moves", "movelots", "worlds"]
 
 
 class TestExamples(unittest.TestCase):
