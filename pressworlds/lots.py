@@ -1,4 +1,4 @@
-"""What lots of all worlds have in common: the tuple of told changes, and what is needless in it."""
+"""What lots of all worlds, and leads, have in common: the tuple of changes, and what is needless in it."""
 
 from pressworlds.errors import InvalidChanges
 from pressworlds.limits import MOST_TOLD
@@ -9,10 +9,15 @@ def told_changes(changes, fits):
 
     `fits` tells of a change and the first one whether it may be told beside it.
     """
+    return fitting_changes(changes, fits, MOST_TOLD)
+
+
+def fitting_changes(changes, fits, most):
+    """Return the changes if there are from one to so many and all fit, else raise InvalidChanges."""
     if not isinstance(changes, tuple) or not changes:
         raise InvalidChanges(None)
     for at, change in enumerate(changes):
-        if at == MOST_TOLD or not fits(change, changes[0]):
+        if at == most or not fits(change, changes[0]):
             raise InvalidChanges(at)
     return changes
 

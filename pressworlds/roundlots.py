@@ -139,22 +139,29 @@ def form_of_trips(levels, trips):
     return divisor, tuple([lamps_of(head) for head in heads]), lamps_of(trip)
 
 
+def left_without_ends(levels, picture, heads):
+    """Return what is left of a picture when the pictures of a form without ends are taken away, so far as they can."""
+    left = picture
+    for head in heads:
+        left = with_more(levels, left, head, -left.get(min(head), 0), 0)
+    return left
+
+
 def is_trip_in(levels, form, trip):
-    """Return whether a near trip is made by a lot with this form."""
+    """Return whether a trip is made by a lot with this form."""
     divisor, pictures, way = form
     picture, end = trip
     if left_by(end, divisor) != 0:
         return False
     heads = [picture_of(lamps) for lamps in pictures]
     if divisor == 0:
-        heads = [changed(levels, head, 1, MOST_NEAR_PLACE) for head in heads]
-        return not taken_by_heads(levels, changed(levels, picture, 1, MOST_NEAR_PLACE), STEP_WITHOUT_ENDS, heads)
+        return not left_without_ends(levels, picture, heads)
     gone = trip_often(levels, (picture_of(way), divisor), end // divisor)[0]
     return not taken_by_heads(levels, with_more(levels, picture, gone, -1, 0), divisor, heads)
 
 
 def is_round_made(rounds, one):
-    """Return whether these rounds, or none, make a near round."""
+    """Return whether these rounds, or none, make a round."""
     return is_trip_in(one.levels, form_of_trips(one.levels, [trip_of(each) for each in rounds]), trip_of(one))
 
 

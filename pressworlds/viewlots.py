@@ -100,13 +100,18 @@ def check_view_lots(lot, other_lot):
         raise OtherWorld(other_lot)
 
 
+def is_near_view(view):
+    """Return whether a view is a near one."""
+    return is_within(view, MOST_NEAR_ZOOM, MOST_NEAR_SHIFT, view.factor ** 8)
+
+
 def check_near_view(lot, change):
     """Raise what a lot of views and a near view of its world do not fulfil."""
     check_view_lot(lot)
     check_view(change)
     if lot.factor != change.factor:
         raise OtherWorld(change)
-    if not is_within(change, MOST_NEAR_ZOOM, MOST_NEAR_SHIFT, change.factor ** 8):
+    if not is_near_view(change):
         raise TooFar(change)
 
 
@@ -154,9 +159,13 @@ def form_of_pairs(factor, pairs):
     if shared == 0:
         return step, ZERO, (way[1],)
     gauge = stripped(shared, factor)
+    return step, (gauge, 1), ((whole_rest(way[1], gauge), 1),)
+
+
+def whole_rest(shift, gauge):
+    """Return the integer from 0 to one less than a gauge that differs from a shift by the gauge times what fits."""
     # The bottom has no divisor in common with the gauge, so some number times it leaves what the top leaves.
-    head = times_for([(way[1][1],), (gauge,)], (way[1][0],))[0] % gauge
-    return step, (gauge, 1), ((head, 1),)
+    return times_for([(shift[1],), (gauge,)], (shift[0],))[0] % gauge
 
 
 def is_pair_in(factor, form, pair):

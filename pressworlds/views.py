@@ -103,6 +103,9 @@ def pair_then(factor, one, other):
 def pair_often(factor, pair, times):
     """Return a pair so many times; the shifts, each scaled by the zooms ahead of it, are summed up at once."""
     zoom, shift = pair
+    # A pair that is done no times may have a zoom with which no power could be reckoned.
+    if times == 0:
+        return 0, ZERO
     if zoom == 0:
         return 0, ratio_times((times, 1), shift)
     return zoom * times, ratio_times(shift, ratio_over(growth(factor, zoom * times), growth(factor, zoom)))

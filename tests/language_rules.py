@@ -266,6 +266,8 @@ def functions_and_classes(look):
         own = {a.attr for a in ast.walk(node) if isinstance(a, ast.Attribute) and isinstance(a.ctx, ast.Store)}
         if len(methods) != len(set(methods)) or own & set(methods):
             look.say("L18", node, "a name is twice a method, or a method and an attribute")
+    for name in look.package.attributes & look.package.properties:
+        look.say("L5", 0, f"attribute {name} has the name of a property")
 
 
 def check_returns(look, node):
@@ -299,6 +301,42 @@ def statements(look):
     for node in look.of_kind(ast.ImportFrom, ast.Import):
         if isinstance(node, ast.Import) or not isinstance(look.parent(node), ast.Module):
             look.say("L2", node, "import of another kind, or in a function")
+
+
+def trials(look):
+    """L6 With: over what with statements stand, and the few rows that __exit__ may have."""
+    for node in look.of_kind(ast.With):
+        for item in node.items:
+            over, name = item.context_expr, item.optional_vars
+            if not isinstance(over, (ast.Call, ast.Name, ast.Attribute)) or not isinstance(name,
+                    (ast.Name, type(None))):
+                look.say("L6", node, "with over something else")
+    for node in look.of_kind(ast.FunctionDef):
+        if node.name == "__exit__":
+            names = [arg.arg for arg in node.args.args]
+            if len(names) != 4:
+                look.say("L6", node, "other parameters")
+            for row in node.body:
+                check_exit_row(look, row, names[1:])
+
+
+def check_exit_row(look, row, told):
+    """Check one row of __exit__: an assignment of something simple, or a question whether there was an exception."""
+    if isinstance(row, ast.If) and not row.orelse:
+        if ast.unparse(row.test) not in (f"{told[0]} is None", f"{told[0]} is not None"):
+            look.say("L6", row, "another question in __exit__")
+        for inner in row.body:
+            check_exit_row(look, inner, told)
+    elif isinstance(row, ast.Assign) and len(row.targets) == 1:
+        target = row.targets[0]
+        owned = isinstance(target, ast.Attribute) and isinstance(target.value, ast.Name)
+        kept = isinstance(target, ast.Name) and re.fullmatch(r"self\.\w+", ast.unparse(row.value))
+        simple = re.fullmatch(r"\w+(\.\w+)*", ast.unparse(row.value)) and not set(told) & {
+            part.id for part in ast.walk(row.value) if isinstance(part, ast.Name)}
+        if not (kept or owned and simple):
+            look.say("L6", row, "no simple row in __exit__")
+    elif not isinstance(row, ast.Pass) and not is_docstring(row):
+        look.say("L6", row, "no simple row in __exit__")
 
 
 def expressions(look):
@@ -524,5 +562,6 @@ def sets(look):
                 look.say("L24", node, "set")
 
 
-RULES = [sizes, module_level, functions_and_classes, statements, expressions, names, words, errors, calls, iterations,
+RULES = [sizes, module_level, functions_and_classes, statements, trials, expressions, names, words, errors, calls,
+         iterations,
          sets]

@@ -6,7 +6,7 @@ import unittest
 
 HERE = os.path.dirname(os.path.abspath(__file__))
 SECTIONS = ["rows", "rowlots", "folds", "points", "pointlots", "slides", "slidelots", "views", "viewlots", "rounds",
-            "roundlots", "moves", "movelots", "worlds"]
+            "roundlots", "moves", "movelots", "worlds", "leads", "fewest", "boards"]
 
 
 class TestExamples(unittest.TestCase):
