@@ -188,6 +188,12 @@ class TestWebs(CheckerCase):
         for web in wrong + ODD:
             self.no(("misses", lot.text, str(row)), web)
 
+    def test_capitals_are_no_letters_of_ties(self):
+        self.no(("misses", "rows 2 A", "rows 2 a"), ((0, "A", 0),))
+        self.no(("misses", "rows 2 B", "rows 2 b"), ((0, "B", 0), (0, "a", 1)))
+        self.no(("misses", "rows 2 A", "rows 2 b"), ((0, "A", 0),))
+        self.yes(("misses", "rows 2 A", "rows 2 b"), ((0, "a", 0),))
+
     def test_still_rows(self):
         lot = RowLot((Row(3, ""),))
         self.yes(("misses", lot.text, "rows 3 " + "abc" * 100), ())
@@ -269,6 +275,11 @@ class TestByHand(CheckerCase):
         self.yes(("misses", "screen 3 zoom 3 shift 1/3", "screen 3 zoom 3 shift 1"), (3, (0, 1), ((1, 3),)))
         self.no(("misses", "screen 3 zoom 3 shift 1/3", "screen 3 zoom 3 shift 1"), (3, (0, 1), ((1, 2),)))
         self.yes(("misses", "screen 3 zoom 0 shift 0", "screen 3 zoom 1 shift 0"), (0, (0, 1), ()))
+        for shift, good in [((1, 3), True), ((-2, 9), True), ((5, 1), True), ((0, 1), True), ((1, 2), False),
+                            ((1, 6), False),
+                            ((3, 9), False), ((1, -3), False), ((1, 0), False), ((1, True), False)]:
+            self.assertIs(self.takes(("misses", "screen 3 zoom 0 shift 0", "screen 3 zoom 3 shift 1"),
+                                     (3, (0, 1), (shift,))), good, shift)
 
     def test_views_and_rounds_that_are_not_near(self):
         nothing = (0, (0, 1), ())
@@ -352,6 +363,9 @@ class TestByHand(CheckerCase):
         self.yes(("misses", "areas 0 1 5", "areas 0 1 6"), ((), (0, 1, 5), 0))
         self.yes(("misses", "areas 0 -1 5", "areas 0 1 6"), ((), (0, 1, -5), 0))
         self.yes(("misses", "areas 0 0 0", "areas 1 0 0"), ((), (), 0))
+        for paper in (((0, 0, 0), (), 0), ((), (0, 0, 0), 0), ((0, 0, 0), (0, 0, 0), 0), ((0, 1, 0), (), 0),
+                ((), (0, 0, 0), 1)):
+            self.no(("misses", "areas 0 0 0", "areas 1 0 0"), paper)
         self.yes(("misses", "areas 0 0 6", f"areas 0 0 {MANY}"), ((), (), 6))
 
 
